@@ -1,0 +1,1 @@
+"""Mustcross: what has to cross on a board of one layer."""

@@ -1,0 +1,54 @@
+"""The texts of notices, and their first wrong signs."""
+
+from mustcross.errors import BadText
+from mustcross.noticegrammar import NoticeGrammar
+from mustcross.notices import need_notice
+from mustcross.scans import Scan, taken_signs, text_fault
+
+
+def pair_text(pair):
+    """Two names with a blank between."""
+    return f"{pair[0]} {pair[1]}"
+
+
+def rim_text(pins):
+    """The rim's line."""
+    if not pins:
+        return "rim\n"
+    return "rim " + ", ".join(pins) + "\n"
+
+
+def notice_text(notice):
+    """The text of a notice."""
+    need_notice(notice)
+    board = notice.board()
+    lines = [f"place {place}\n" for place in board.places()]
+    lines.extend([f"tie {pair_text(tie)}\n" for tie in board.ties()])
+    lines.append(rim_text(board.rim()))
+    lines.extend([f"apart {pair_text(one)}, {pair_text(other)}\n"
+                  for one, other in notice.wishes()])
+    return "".join(lines)
+
+
+def notice_fault(text):
+    """The line and the first wrong sign of any object, None for a notice's text."""
+    return text_fault(text, NoticeGrammar())
+
+
+def read_notice(text):
+    """The notice with this text."""
+    grammar = NoticeGrammar()
+    fault = text_fault(text, grammar)
+    if fault is not None:
+        raise BadText(fault[0], fault[1])
+    return grammar.notice()
+
+
+def notice_goes_on(text):
+    """A notice's text that begins with a string, None if there is none."""
+    if not isinstance(text, str):
+        return None
+    scan = Scan(NoticeGrammar())
+    if taken_signs(scan, text) < len(text):
+        return None
+    return text + scan.rest()
