@@ -38,7 +38,7 @@ def is_picture_form(thing):
 
 def is_answer(thing):
     """Whether any object is an answer."""
-    if not is_list(thing) or not thing or not isinstance(thing[0], str):
+    if not is_list(thing) or not thing:
         return False
     if thing[0] == "cross":
         return is_cross_form(thing)

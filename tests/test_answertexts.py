@@ -19,6 +19,7 @@ NO_ANSWERS = [
     ("cross", ["a", "b"], ["c", "c"]), ("cross", ["a", "b"], ["c", "d"], []), ("cross", "ab", "cd"),
     ("cross", ["a", "rim"], ["c", "d"]), ("cross", ["a", 1], ["c", "d"]), ("cross", ["a", "b"], ["c", ["d"]]),
     ("cross", ["a", "b"], None), ("cross", ["a", "b"], ["c", F]), ("cross", ["a", "b"], {"c": 1, "d": 2}),
+    ("cross", None, ["a", "b"]), ("cross", "ab", ["c", "d"]), ("cross", {"a": 1, "b": 2}, ["c", "d"]),
     ("way", ["a", "b"], ["c", "d"]), (True, ["a", "b"], ["c", "d"]), (F, ["a", "b"], ["c", "d"]),
     (["cross"], ["a", "b"], ["c", "d"]), ("none",), ("picture",), ("picture", []), ("picture", {}, []),
     ("picture", [], {}, {}), ("picture", [], []), ("picture", {}, {}), ("picture", None, {}),
@@ -181,6 +182,17 @@ class AnswerTextTest(unittest.TestCase):
         keys = "".join(f"at {name}\n" for name in names)
         self.fault(keys + "at abcdefg", 38, 10)
         self.fault(keys + "at x: abcdefg", 38, 14)
+
+    def test_names_that_run_out_for_a_word(self):
+        signs = "abcdefghijklmnopqrstuvwxyz0123456789"
+        names = ["behind" + one for one in signs] + ["behind" + one + two for one in signs for two in signs]
+        ahead = "way " + ", ".join(names)
+        self.assertLess(len(ahead), 20000)
+        self.fault(ahead + ", behind", 1, len(ahead) + 8)
+        ahead = "way " + ", ".join(names[:700] + names[701:])
+        self.fault(ahead + ", behind", 1, len(ahead) + 9)
+        self.fault(ahead + ", behind\n", 1, len(ahead) + 9)
+        self.fault(ahead + ", " + names[700][:7], 1, len(ahead) + 10)
 
     def test_sign_by_sign(self):
         for text in ["way a, at1\nway b, c\n", "fold a, b behind c, d\nat a: b\nat b\n",

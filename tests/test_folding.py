@@ -147,6 +147,10 @@ class ThinnedTest(unittest.TestCase):
         hung = board("a b c d p q r", "a b, p a, q b, q c, q d, r q", "a b c d")
         self.assertEqual(thinned(hung)[1], [["p"], ["r"]])
 
+    def test_pieces_are_ascending(self):
+        of = board("a b k p q r", "a k, k p, k q, b q, b r", "p q r")
+        self.assertEqual(thinned(of)[1], [["a", "k"], ["b"]])
+
     def test_told_new(self):
         told_new(self, lambda: thinned(board("a b p q", "a p, b q", "a b"))[1])
         self.assertIs(thinned(F).__class__, tuple)
