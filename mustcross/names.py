@@ -16,9 +16,14 @@ def is_name(thing):
     return all([sign in NAME_SIGNS for sign in thing])
 
 
+def is_integer(thing):
+    """Whether any object is an integer: truths are none."""
+    return isinstance(thing, int) and not isinstance(thing, bool)
+
+
 def is_number(thing):
-    """Whether any object is an integer from 0 on: truths are none."""
-    return isinstance(thing, int) and not isinstance(thing, bool) and thing >= 0
+    """Whether any object is an integer from 0 on."""
+    return is_integer(thing) and thing >= 0
 
 
 def is_list(thing):

@@ -2,6 +2,7 @@
 
 import ast
 import builtins
+import functools
 import importlib
 import inspect
 import pathlib
@@ -26,6 +27,24 @@ INTERFACE = {
                "piece_with(board, place, number)", "ways_out(board, place, number)"],
     "nests": ["least_piece(board, place)", "greatest_piece(board, place)"],
     "folding": ["folded(board, piece)", "fold_row(board)", "thinned(board)"],
+    "ledways": ["led_in(board, piece, ways)", "led_out(board, piece, ways)"],
+    "crosses": ["cross(board)", "is_cross(board, thing)"],
+    "pictures": ["picture(board)", "picture_fault(board, thing)", "is_picture(board, thing)"],
+    "bothways": ["has_cross(board)", "thinned_to_cross(board)"],
+    "drawings": ["drawing(board)", "drawing_fault(board, thing)", "faces(board, drawing)",
+                 "share_face(board, drawing, one, other)", "mirrored(board, drawing)"],
+    "bars": ["bar(board)", "bar_fault(board, thing)", "cross_bar(board, cross)"],
+    "laying": ["laying_fault(board, thing)", "laid(board)", "read_off(board, laying)"],
+    "twos": ["two_joined(board, one, two)", "two_board(board, one, two)", "two_picture(board, one, two)",
+             "pairings(board)", "calm_pins(board)"],
+    "joined": ["joined(board, pairs)", "join_paper(board, pairs)", "is_joined(board, pairs, thing)",
+               "is_join_paper(board, pairs, thing)"],
+    "rounds": ["is_round(board, thing)", "round_through(board, told)", "round_bar(board, told)",
+               "is_round_bar(board, told, thing)"],
+    "through": ["put_between(board, one, other, name)", "put_on(board, one, other, name)",
+                "way_through(board, one, other, told)"],
+    "senses": ["way_over(board, one, other, first, second)", "round_over(board, one, other, first, second)"],
+    "rimcounts": ["count(board, first, last)", "least_lot(board, first, last)", "counts(board)"],
 }
 CLASSES = {
     "boards": ("Board", "(places, ties, rim)", {"places": "(self)", "ties": "(self)", "rim": "(self)",
@@ -47,6 +66,7 @@ BARRED_WORDS = re.compile(r"(?<![A-Za-z0-9_])(type|typing|typing_extensions|enum
                           r"|abstractmethod)(?![A-Za-z0-9_])|dataclass|overload|contextmanager|_wall")
 
 
+@functools.cache
 def trees():
     return [(path.stem, ast.parse(path.read_text())) for path in FILES]
 
@@ -138,7 +158,7 @@ class FormTest(unittest.TestCase):
         for file, tree in trees():
             taken = {alias.name for node in ast.walk(tree) if isinstance(node, ast.ImportFrom)
                      for alias in node.names}
-            taken |= {node.name for node in tree.body if hasattr(node, "name")}
+            taken |= {node.name for node in tree.body if isinstance(node, ast.ClassDef)}
             for name in self.bound(tree):
                 self.assertNotIn(name, taken, file)
                 self.assertFalse(hasattr(builtins, name), (file, name))

@@ -1,0 +1,25 @@
+"""Crosses of boards."""
+
+from mustcross.apart import first_that_meets
+from mustcross.checks import need_board
+from mustcross.crossing import alternate, crossing_ways
+from mustcross.names import is_pair
+from mustcross.ways import way_fault
+
+
+def cross(board):
+    """A cross of a board, as a pair of lists, None if there is none."""
+    need_board(board)
+    return crossing_ways(board)
+
+
+def is_cross(board, thing):
+    """Whether any object is a cross of the board, either way first, each either way about."""
+    need_board(board)
+    if not is_pair(thing) or not all([way_fault(board, way) is None for way in thing]):
+        return False
+    if first_that_meets(thing) is not None or min([len(way) for way in thing]) < 2:
+        return False
+    rim = board.rim()
+    one, other = [(way[0], way[-1]) for way in thing]
+    return all([pin in rim for pin in [*one, *other]]) and alternate(rim, one, other)
