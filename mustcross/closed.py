@@ -1,7 +1,7 @@
 """The closed board: the outside is a place, tied to all pins, and the rim is a ring."""
 
-from mustcross.planar import is_plane, plane_rings
 from mustcross.masks import near_masks
+from mustcross.planar import is_plane, plane_rings
 from mustcross.walks import OUTSIDE, from_least, turned_to
 
 

@@ -87,7 +87,7 @@ def rows_from(near, some, others, ways):
 
 
 def row_to(come, step):
-    """The steps of the row that comes to a step."""
+    """The steps of the row that comes to a step, by a dict from each to the one ahead, None at a begin."""
     row = []
     while step is not None:
         row.append(step)

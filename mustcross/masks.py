@@ -1,5 +1,7 @@
 """Lots of numbered places as masks: bit k of a mask tells whether place k is in the lot."""
 
+from mustcross.flows import row_to
+
 
 def lowest(mask):
     """The least place of a lot that is not empty."""
@@ -50,19 +52,10 @@ def way_in(near, some, others, inside):
     while at < len(row):
         here = row[at]
         if others >> here & 1:
-            return way_back(ahead, here)
+            return row_to(ahead, here)
         for place in members(near[here] & left):
             ahead[place] = here
             row.append(place)
         left = left & ~near[here]
         at += 1
     return None
-
-
-def way_back(ahead, place):
-    """The way that comes to a place, by a dict from each place to the one ahead of it."""
-    way = []
-    while place is not None:
-        way.append(place)
-        place = ahead[place]
-    return way[::-1]

@@ -30,7 +30,8 @@ def board_of_two(board, one, two):
 
 def led_from(ways, pair):
     """The one of the ways that joins a pair, from its first place on."""
-    way = [way for way in ways if pair[0] in (way[0], way[-1])][0]
+    one, other = ways
+    way = one if pair[0] in (one[0], one[-1]) else other
     return way if way[0] == pair[0] else way[::-1]
 
 

@@ -71,7 +71,7 @@ class BarTest(unittest.TestCase):
         four = Board(list("abcde"), three.ties(), ["a", "b", "d", "c"])
         self.assertEqual(bar_fault(four, (kind, places, [["a", "b"], *ways[1:]])), ("way", 4))
         self.assertEqual(closed_ties(four) - closed_ties(with_rim(four, [])),
-                         {frozenset(tie) for tie in [("a", "b"), ("a", "rim"), ("b", "rim"), ("c", "rim"), ("d", "rim")]})
+                         {frozenset(tie) for tie in [("a", "b"), *[(pin, "rim") for pin in "abcd"]]})
 
     def test_told_new_and_the_same(self):
         told_new(self, lambda: bar(N))
@@ -114,7 +114,8 @@ class BarFaultTest(unittest.TestCase):
         return kind, places, ways[:index] + [way] + ways[index + 1:]
 
     def test_way(self):
-        for way in [["a", "c"], ["c", "x", "a"], ["a", "x"], ["a", "x", "y", "c"], ["a", "x", "x", "c"], [], None, "axc",
+        for way in [["a", "c"], ["c", "x", "a"], ["a", "x"], ["a", "x", "y", "c"], ["a", "x", "x", "c"], [], None,
+                    "axc",
                     ["a", "zz", "c"], ["a", 1, "c"], ["a", ["x"], "c"], {"a": 1}, ["x", "c"], ["a"], [["a"], "c"]]:
             self.assertEqual(bar_fault(N, self.changed(1, way)), ("way", 1), way)
         for index in range(10):

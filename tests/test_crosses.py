@@ -215,7 +215,8 @@ class ThinnedToCrossTest(unittest.TestCase):
         for of in GREAT:
             told = self.look(of)
             for tie in told.ties():
-                self.assertFalse(has_cross(Board(told.places(), [row for row in told.ties() if row != tie], told.rim())))
+                less = Board(told.places(), [row for row in told.ties() if row != tie], told.rim())
+                self.assertFalse(has_cross(less))
 
 
 if __name__ == "__main__":

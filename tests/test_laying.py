@@ -180,7 +180,8 @@ class LayingFaultTest(unittest.TestCase):
                       list(LAID_W.items()), W]:
             self.assertEqual(laying_fault(W, thing), ("form",))
         over = (-7, 2)
-        for point in [None, (), ((3, 2),), ((3, 2), over, over), "xy", (3, 2), ((3, 2), None), ((3,), over), {1: 2, 3: 4},
+        for point in [None, (), ((3, 2),), ((3, 2), over, over), "xy", (3, 2), ((3, 2), None), ((3,), over),
+                      {1: 2, 3: 4},
                       ((6, 4), over), ((-3, -2), over), ((3, 0), over), ((0, 2), over), ((3, 2, 1), over),
                       (("3", 2), over), ((True, 1), over), ((1, True), over), ((3, None), over), ((3, [2]), over),
                       ((3, 2), (7, -2)), ((3, 2), (-14, 4)), (3, over), ([3, 2], "-7"), ((0, 0), over)]:
