@@ -5,6 +5,7 @@ from mustcross.planar import is_plane
 
 FIVE = "five"
 THREE = "three"
+MANY = {"five": 5, "three": 6}
 STEPS = {"five": ((0, 1), (0, 2), (0, 3), (0, 4), (1, 2), (1, 3), (1, 4), (2, 3), (2, 4), (3, 4)),
          "three": ((0, 3), (0, 4), (0, 5), (1, 3), (1, 4), (1, 5), (2, 3), (2, 4), (2, 5))}
 
@@ -61,7 +62,7 @@ def in_two_halves(ends, found):
 
 def told_bar(places, found):
     """A bar of these places, by a dict from pairs of them to ways."""
-    kind = FIVE if len(places) == 5 else THREE
+    kind = FIVE if len(places) == MANY[FIVE] else THREE
     return kind, places, [found[(places[one], places[other])] for one, other in STEPS[kind]]
 
 
@@ -71,7 +72,7 @@ def found_bar(near):
     least = least_not_plane(near_masks({name: near[name] for name in names}))
     ends = [place for place, mask in enumerate(least) if len(members(mask)) > 2]
     found = ways_between(least, ends)
-    if len(ends) > 5:
+    if len(ends) == MANY[THREE]:
         ends = in_two_halves(ends, found)
     ways = {(names[one], names[other]): [names[place] for place in way]
             for (one, other), way in found.items()}

@@ -1,6 +1,6 @@
 """What bars a drawing: five places all tied, or three and three, by ways in the closed board."""
 
-from mustcross.barring import STEPS, found_bar, told_bar
+from mustcross.barring import MANY, STEPS, found_bar, told_bar
 from mustcross.checks import need_board
 from mustcross.closed import closed_near, is_drawable
 from mustcross.crosses import is_cross
@@ -23,7 +23,7 @@ def is_bar_form(near, thing):
         return False
     if first_unknown(thing[1], near) is not None or not is_list(thing[2]):
         return False
-    return len(thing[1]) == (5 if thing[0] == "five" else 6) and len(thing[2]) == len(STEPS[thing[0]])
+    return len(thing[1]) == MANY[thing[0]] and len(thing[2]) == len(STEPS[thing[0]])
 
 
 def leads(near, thing, one, other):

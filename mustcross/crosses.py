@@ -18,8 +18,9 @@ def is_cross(board, thing):
     need_board(board)
     if not is_pair(thing) or not all([way_fault(board, way) is None for way in thing]):
         return False
-    if first_that_meets(thing) is not None or min([len(way) for way in thing]) < 2:
+    if first_that_meets(thing) is not None:
         return False
     rim = board.rim()
+    # A way of one place has no pin between its ends, so it alternates with none.
     one, other = [(way[0], way[-1]) for way in thing]
     return all([pin in rim for pin in [*one, *other]]) and alternate(rim, one, other)

@@ -98,8 +98,7 @@ def side_from(points, place, first, other):
     """Which part of a clockwise turn round a place, from first on, comes to another: 0 is first itself."""
     if other == first:
         return 0
-    turned = turn(points[place], points[first], points[other])
-    return 1 if turned < 0 else 2 if turned == 0 else 3
+    return 1 if turn(points[place], points[first], points[other]) <= 0 else 2
 
 
 def goes_ahead(points, place, first, one, other):

@@ -239,6 +239,16 @@ def grid(wide, high, crossed=(), rim=None):
     return Board(list(names.values()), ties, [names[at] for at in (corners if rim == "corners" else edge)])
 
 
+def crossed_grid(seed, wide, high):
+    """A grid with ties across in one field, some ties left out, some places of its edge as pins."""
+    chance = Random(seed)
+    whole = grid(wide, high, [(chance.randrange(wide - 1), chance.randrange(high - 1))])
+    ties = [tie for tie in whole.ties() if chance.random() < .9]
+    rim = whole.rim()
+    pins = sorted(chance.sample(range(len(rim)), chance.choice([4, 4, 5, 6])))
+    return Board(whole.places(), ties, [rim[at] for at in pins])
+
+
 def random_board(seed, many, ties, pins):
     """A board of so many places, ties and pins."""
     chance = Random(seed)

@@ -73,6 +73,12 @@ class BarTest(unittest.TestCase):
         self.assertEqual(closed_ties(four) - closed_ties(with_rim(four, [])),
                          {frozenset(tie) for tie in [("a", "b"), *[(pin, "rim") for pin in "abcd"]]})
 
+    def test_places_behind_rim(self):
+        self.assertEqual(cross_bar(board("a s t u v", "s u, t v", "a s t u v"), (["s", "u"], ["v", "t"]))[1],
+                         ["rim", "s", "t", "u", "v"])
+        full = Board(list("stuvw"), list(combinations("stuvw", 2)), list("stuv"))
+        self.assertTrue(told_right(full, bar(full)))
+
     def test_told_new_and_the_same(self):
         told_new(self, lambda: bar(N))
         told_new(self, lambda: cross_bar(N, cross(N)))
@@ -97,7 +103,8 @@ class BarFaultTest(unittest.TestCase):
     def test_form(self):
         kind, places, ways = BAR_N
         for thing in [*odd_things(), (kind, places), (kind, places, ways, ways), ("three", places, ways),
-                      ("six", places, ways), (5, places, ways), (None, places, ways), ([kind], places, ways),
+                      ("six", places, ways), ("six", list("abcxyd"), ways[:9]),
+                      (5, places, ways), (None, places, ways), ([kind], places, ways),
                       (kind, places[:4], ways), (kind, [*places, "x"], ways), (kind, places[:4] + ["a"], ways),
                       (kind, places[:4] + ["zz"], ways), (kind, places[:4] + [1], ways), (kind, None, ways),
                       (kind, places[:4] + [["rim"]], ways), (kind, "abcd", ways), (kind, places, ways[:9]),

@@ -4,7 +4,8 @@ import unittest
 from itertools import combinations
 from random import Random
 
-from byhand import (crosses_by_hand, flat_board, grid, is_cross_of, is_picture_of, is_way, random_board, with_rim)
+from byhand import (crossed_grid, crosses_by_hand, flat_board, grid, is_cross_of, is_picture_of, is_way,
+                    random_board, with_rim)
 from mustcross.boards import Board
 from mustcross.bothways import has_cross, thinned_to_cross
 from mustcross.crosses import cross, is_cross
@@ -17,8 +18,12 @@ from support import (EMPTY, F, N, W, Z, all_pieces, all_ways, board, listed, no_
 WX = board("a b c d x", "a c, a x, b x, c x, d x", "a b c d")
 BARE = board("a b c d", "a c, b d", "a b c d")
 OVER = board("a b c d e f", "a b, b d, c f, e f", "a c b d e")
+# In these no cross has a way that is as short as can be.
+HARD = [crossed_grid(seed, wide, 4)
+        for seed, wide in [(45, 3), (60, 3), (333, 3), (336, 3), (11, 4), (138, 4), (124, 4)]]
 BOARDS = [F, N, W, Z, EMPTY, WX, BARE, OVER, *small_boards(500, 7, 71), *small_boards(250, 8, 72)]
-GREAT = [grid(6, 6, [(2, 2)], "corners"), grid(5, 8, [(1, 1)], "corners"), grid(6, 6, [(2, 2)]), grid(5, 8, [(3, 6)]),
+GREAT = [*HARD, grid(6, 6, [(2, 2)], "corners"), grid(5, 8, [(1, 1)], "corners"),
+         grid(6, 6, [(2, 2)]), grid(5, 8, [(3, 6)]),
          *[random_board(seed, 40, 100, pins) for seed, pins in enumerate([4, 5, 8, 16, 40])],
          random_board(7, 40, 780, 4), random_board(8, 40, 400, 12), random_board(9, 40, 70, 6)]
 
@@ -70,6 +75,13 @@ class CrossTest(unittest.TestCase):
                 told, other = cross(of), picture(of)
                 self.assertNotEqual(told is None, other is None)
                 self.assertTrue(told_right(of, told) if told else is_picture_of(of, other))
+
+    def test_boards_where_no_short_way_crosses(self):
+        for of in HARD:
+            self.assertTrue(crosses_by_hand(of))
+            for one, other in [("p00", "p10"), ("p01", "p11"), ("p12", "p13")]:
+                less = Board(of.places(), [tie for tie in of.ties() if tie != (one, other)], of.rim())
+                self.assertEqual(cross(less) is not None, crosses_by_hand(less))
 
     def test_fewer_than_four_pins(self):
         full = list(combinations("abcde", 2))
@@ -176,7 +188,7 @@ class CutTest(unittest.TestCase):
         self.assertGreater(seen, 50)
 
     def test_there_is_one_with_pins_at_ends_alone(self):
-        for of in BOARDS:
+        for of in [*BOARDS, *GREAT]:
             told = thinned_to_cross(of)
             if told is not None:
                 for way in cross(told):

@@ -2,7 +2,7 @@
 
 import unittest
 from fractions import Fraction
-from itertools import combinations
+from itertools import combinations, permutations
 from random import Random
 
 from byhand import all_drawings, flat_board, is_told_drawing, triangles
@@ -182,7 +182,8 @@ class LayingFaultTest(unittest.TestCase):
         over = (-7, 2)
         for point in [None, (), ((3, 2),), ((3, 2), over, over), "xy", (3, 2), ((3, 2), None), ((3,), over),
                       {1: 2, 3: 4},
-                      ((6, 4), over), ((-3, -2), over), ((3, 0), over), ((0, 2), over), ((3, 2, 1), over),
+                      ((6, 4), over), ((-3, -2), over), ((3, 0), over), ((1, 0), over), ((0, 2), over),
+                      ((3, 2, 1), over),
                       (("3", 2), over), ((True, 1), over), ((1, True), over), ((3, None), over), ((3, [2]), over),
                       ((3, 2), (7, -2)), ((3, 2), (-14, 4)), (3, over), ([3, 2], "-7"), ((0, 0), over)]:
             self.assertEqual(laying_fault(W, {**LAID_W, "x": point}), ("form",), point)
@@ -224,6 +225,36 @@ class LayingFaultTest(unittest.TestCase):
         alone = board("a b c d x y", "a c", "a b c d")
         self.assertIsNone(laying_fault(alone, on_line))
 
+    def test_touch_in_one_line(self):
+        of = board("a b c d e w x y z", "w x, y z", "a b c d e")
+        corners = [(at, -at * at) for at in range(5)]
+        for way in [(0, 1), (1, 0), (1, -4), (2, 1)]:
+            for shares in [(0, 2, 1, 3), (0, 3, 1, 2), (1, 2, 0, 3), (2, 3, 0, 1), (3, 0, 2, 1), (0, 1, 3, 2),
+                           (3, 2, 1, 0)]:
+                points = dict(zip("abcde", corners))
+                points |= {place: (2 + Fraction(way[0] * share, 20), -6 + Fraction(way[1] * share, 20))
+                           for place, share in zip("wxyz", shares)}
+                thing = told_points({place: tuple(map(Fraction, point)) for place, point in points.items()})
+                apart = max(shares[:2]) < min(shares[2:]) or max(shares[2:]) < min(shares[:2])
+                self.assertEqual(laying_fault(of, thing), None if apart else ("touch", ("w", "x"), ("y", "z")))
+                star = board("a b c d e w x y z", "w x, w y", "a b c d e")
+                one, other = shares[1] - shares[0], shares[2] - shares[0]
+                due = ("touch", ("w", "x"), ("w", "y")) if one * other > 0 else None
+                self.assertEqual(laying_fault(star, thing), due)
+
+    def test_ties_close_to_one_another(self):
+        of = board("a b c d e f g h i w x y z", "w x, y z", "a b c d e f g h i")
+        corners = {pin: ((at, 1), (-at * at, 1)) for at, pin in enumerate("abcdefghi")}
+        for start, way in [((4, -24), (0, 1)), ((3, -16), (1, -8))]:
+            for shares in permutations(range(4)):
+                points = {place: (((start[0] + way[0] * share), 1), (start[1] + way[1] * share, 1))
+                          for place, share in zip("wxyz", shares)}
+                apart = max(shares[:2]) < min(shares[2:]) or max(shares[2:]) < min(shares[:2])
+                told = laying_fault(of, {**corners, **points})
+                self.assertEqual(told, None if apart else ("touch", ("w", "x"), ("y", "z")))
+        beside = {"w": ((4, 1), (-24, 1)), "x": ((4, 1), (-23, 1)), "y": ((5, 1), (-30, 1)), "z": ((5, 1), (-31, 1))}
+        self.assertIsNone(laying_fault(of, {**corners, **beside}))
+
     def test_by_hand(self):
         chance = Random(112)
         faults = {}
@@ -258,6 +289,21 @@ class ReadOffTest(unittest.TestCase):
         self.assertEqual(read_off(THREE, laid(THREE)), drawing(THREE))
         chord = board("a b c d", "a b, a c, a d", "a b c d")
         self.assertEqual(read_off(chord, laid(chord))["a"], ["b", "c", "d"])
+
+    def test_ties_in_whatever_directions(self):
+        ways = [(-2, 1), (0, 2), (2, 1), (3, 0), (2, -1), (0, -1), (-1, -1), (-1, 0), (1, 2), (-3, -1)]
+        clockwise = [(-1, 0), (-2, 1), (0, 2), (1, 2), (2, 1), (3, 0), (2, -1), (0, -1), (-1, -1), (-3, -1)]
+        points = {pin: (Fraction(at), Fraction(-at * at)) for at, pin in enumerate("abcde")}
+        chance = Random(113)
+        for many in range(1, 11):
+            row = chance.sample(ways, many)
+            of = Board(list("abcdex") + [f"y{at}" for at in range(many)], [("x", f"y{at}") for at in range(many)],
+                       list("abcde"))
+            thing = {**points, "x": (Fraction(2), Fraction(-6))}
+            thing |= {f"y{at}": (2 + Fraction(way[0], 20), -6 + Fraction(way[1], 20)) for at, way in enumerate(row)}
+            order = [f"y{row.index(way)}" for way in clockwise if way in row]
+            at = order.index("y0")
+            self.assertEqual(read_off(of, told_points(thing))["x"], order[at:] + order[:at])
 
     def test_boards_that_hang_by_two(self):
         of = board("a b c d x y z", "x y, b y", "a b c d")

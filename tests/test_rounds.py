@@ -242,6 +242,29 @@ class IsRoundBarTest(unittest.TestCase):
             self.assertIs(is_round_bar(ROWS, told, ("lots", lots)), False, lots)
         self.assertIs(is_round_bar(ROWS, told, ("lots", [q, p, a, b, c])), True)
 
+    def test_lots_that_are_one_place_or_none(self):
+        told = ["a", "b", "c"]
+        star = board("a b c x", "a x, b x, c x")
+        for lots in [[[], ["x"]], [["x"], []]]:
+            self.assertIs(is_round_bar(star, told, ("lots", [*lots, ["a"], ["b"], ["c"]])), False)
+        self.assertIs(is_round_bar(board("a b c x y", "a x, b x, c x"), told,
+                                   ("lots", [["x"], ["y"], ["a"], ["b"], ["c"]])), True)
+        wide = board("a b c p q1 q2 q3 q4", "a p, b p, c p, a q1, b q2, c q3, q1 q2, q2 q3, p q1, p q2, p q4, q4 q1")
+        one, many = ["p"], ["q1", "q2", "q3", "q4"]
+        for lots in [[one, many], [many, one]]:
+            self.assertIs(is_round_bar(wide, told, ("lots", [*lots, ["a"], ["b"], ["c"]])), True)
+        more = board("a b c p q1 q2 q3 z", "a p, b p, c p, a q1, b q2, c q3")
+        three = many[:3]
+        self.assertIs(is_round_bar(more, told, ("lots", [one, three, ["a"], ["b"], ["c"]])), False)
+        self.assertIs(is_round_bar(more, told, ("lots", [one, three, ["a", "z"], ["b"], ["c"]])), True)
+
+    def test_places_without_ties(self):
+        of = board("a b c", "b c")
+        for thing, due in [(("place", ["a"], "c"), True), (("place", ["a"], "b"), False),
+                           (("place", ["a"], "zz"), False), (("place", ["a"], None), False), (("place", ["a"], ["c"]), False), (("tie", ["a"]), True),
+                           (("place", ["b"], "c"), True), (("place", ["b", "c"], "zz"), False)]:
+            self.assertIs(is_round_bar(of, ["a", "b"], thing), due, thing)
+
     def test_any_object(self):
         told = ["b", "d"]
         self.assertIs(is_round_bar(HUNG, told, ("tie", ["d"])), True)

@@ -4,7 +4,8 @@ import unittest
 from itertools import combinations, permutations
 from random import Random
 
-from byhand import (crosses_by_hand, flat_board, grid, is_picture_of, is_way, joined_by_hand, random_board)
+from byhand import (crossed_grid, crosses_by_hand, flat_board, grid, is_picture_of, is_way, joined_by_hand,
+                    random_board)
 from mustcross.boards import Board
 from mustcross.crosses import cross
 from mustcross.errors import BadBoard, BadPairs
@@ -14,7 +15,8 @@ from support import (EMPTY, F, N, W, Z, board, no_boards, no_places, odd_things,
                      small_boards, told_new, tupled, unchanged)
 
 BOARDS = [of for of in small_boards(150, 7, 121) if len(of.places()) > 3]
-PINS = [F, N, W, Z, EMPTY, board("a b c d", "a c, b d", "a b c d"), *small_boards(150, 7, 122)]
+PINS = [F, N, W, Z, EMPTY, board("a b c d", "a c, b d", "a b c d"), *small_boards(150, 7, 122),
+        *[crossed_grid(seed, 3, 4) for seed in (45, 60, 333, 336)]]
 
 
 def some_twos(of, many, seed=1):
