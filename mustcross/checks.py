@@ -1,7 +1,7 @@
 """The errors of parameters that many functions have."""
 
 from mustcross.boards import Board
-from mustcross.errors import BadBoard, BadLot, BadNumber, IsPin, NoPlace
+from mustcross.errors import BadBoard, BadLot, BadNumber, IsPin, NoPlace, NoTie
 from mustcross.names import first_unknown, is_number
 
 
@@ -15,6 +15,19 @@ def need_place(board, place):
     """NoPlace for what is no place of the board."""
     if not board.has_place(place):
         raise NoPlace(place)
+
+
+def need_two_places(board, one, other):
+    """BadBoard for what is no Board, NoPlace for one, then other, that is no place of it."""
+    need_board(board)
+    need_place(board, one)
+    need_place(board, other)
+
+
+def need_tie(board, one, other):
+    """NoTie of two places that are not tied."""
+    if other not in board.ties_of(one):
+        raise NoTie(one, other)
 
 
 def need_inner_place(board, place):

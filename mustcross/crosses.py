@@ -3,6 +3,7 @@
 from mustcross.apart import first_that_meets
 from mustcross.checks import need_board
 from mustcross.crossing import alternate, crossing_ways
+from mustcross.errors import HasCross
 from mustcross.names import is_pair
 from mustcross.ways import way_fault
 
@@ -11,6 +12,13 @@ def cross(board):
     """A cross of a board, as a pair of lists, None if there is none."""
     need_board(board)
     return crossing_ways(board)
+
+
+def need_no_cross(board):
+    """BadBoard for what is no Board, HasCross with a cross for one that has a cross."""
+    ways = cross(board)
+    if ways is not None:
+        raise HasCross(ways)
 
 
 def is_cross(board, thing):

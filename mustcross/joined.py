@@ -1,10 +1,10 @@
 """Any number of told pairs of pins of a board without a cross: ways, or what bars them."""
 
 from mustcross.apart import first_that_meets
-from mustcross.checks import need_board
 from mustcross.closed import drawn
-from mustcross.crossing import alternate, crossing_ways
-from mustcross.errors import BadPairs, HasCross
+from mustcross.crosses import need_no_cross
+from mustcross.crossing import alternate
+from mustcross.errors import BadPairs
 from mustcross.flows import apart_up_to, is_parted, nearest_parting
 from mustcross.folding import fold_row
 from mustcross.ledways import led_out_of_row
@@ -12,14 +12,6 @@ from mustcross.names import first_unknown, is_list, is_number, is_pair
 from mustcross.routing import first_across, routed
 from mustcross.stretches import all_stretches, pins_outside, stretch_of
 from mustcross.ways import way_fault
-
-
-def need_no_cross(board):
-    """BadBoard for what is no Board, HasCross with a cross for one that has a cross."""
-    need_board(board)
-    ways = crossing_ways(board)
-    if ways is not None:
-        raise HasCross(ways)
 
 
 def first_wrong_pair(rim, things):

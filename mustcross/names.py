@@ -43,6 +43,18 @@ def is_row_of_names(thing):
     return len(set(thing)) == len(thing)
 
 
+def unused_names(taken, many):
+    """The list of so many names that are not among those taken."""
+    found = []
+    number = 0
+    while len(found) < many:
+        name = f"z{number}"
+        if name not in taken:
+            found.append(name)
+        number += 1
+    return found
+
+
 def told_pair(pair):
     """A pair of names as it is told: the lesser one first."""
     return tuple(sorted(pair))

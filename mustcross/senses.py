@@ -1,7 +1,7 @@
 """Ways and rounds that go over a told tie in a told sense."""
 
-from mustcross.checks import need_board, need_place
-from mustcross.errors import NoTie, SamePlace
+from mustcross.checks import need_board, need_place, need_tie
+from mustcross.errors import SamePlace
 from mustcross.twos import two_joined
 
 
@@ -13,12 +13,6 @@ def need_four(board, four):
     for index, place in enumerate(four):
         if place in four[:index]:
             raise SamePlace(place)
-
-
-def need_tie(board, one, other):
-    """NoTie of two places that are not tied."""
-    if other not in board.ties_of(one):
-        raise NoTie(one, other)
 
 
 def way_over(board, one, other, first, second):

@@ -259,3 +259,46 @@ def random_board(seed, many, ties, pins):
 def with_rim(of, rim):
     """The board with another rim."""
     return Board(of.places(), of.ties(), rim)
+
+
+def parted_rim(pins, sizes, seed=1):
+    """A full board: a rim of three pins or more parted into triangles, lots of told sizes behind some, all tied."""
+    chance = Random(seed)
+    rim = [f"q{at}" for at in range(pins)]
+    rows, left = [], [rim]
+    while left:
+        row = left.pop()
+        if len(row) > 2:
+            at = chance.randrange(1, len(row) - 1)
+            rows.append((row[0], row[at], row[-1]))
+            left += [row[:at + 1], row[at:]]
+    ties = {tuple(sorted(tie)) for row in rows for tie in combinations(row, 2)}
+    lots = [[f"v{at}{part}" for part in range(size)] for at, size in enumerate(sizes)]
+    for lot, row in zip(lots, chance.sample(rows, len(lots))):
+        ties |= set(combinations(sorted(lot + list(row)), 2))
+    return Board(rim + [place for lot in lots for place in lot], sorted(ties), rim)
+
+
+def hung_ways(seed, one, other, pieces):
+    """A board of two ways of so many places that cross, and pieces of three places hung on one place each."""
+    chance = Random(seed)
+    ways = [[f"{name}{at}" for at in range(many)] for name, many in [("a", one), ("b", other)]]
+    ties = [step for way in ways for step in zip(way, way[1:])]
+    places = ways[0] + ways[1]
+    for at in range(pieces):
+        row = [f"k{at}{part}" for part in range(3)]
+        places = places + row
+        ties += [*combinations(row, 2), *[(chance.choice(ways[0] + ways[1]), row[0])]]
+    return Board(places, ties, [ways[0][0], ways[1][0], ways[0][-1], ways[1][-1]])
+
+
+def pinned_boards(many, most, seed):
+    """Some small boards with four pins or more, with crosses and without."""
+    chance = Random(seed)
+    found = []
+    for _ in range(many):
+        places = list("abcdefghij"[:chance.randint(4, most)])
+        share = chance.choice([20, 35, 50])
+        ties = [tie for tie in combinations(places, 2) if chance.randrange(100) < share]
+        found.append(Board(places, ties, chance.sample(places, chance.randint(4, min(6, len(places))))))
+    return found

@@ -44,7 +44,17 @@ INTERFACE = {
     "through": ["put_between(board, one, other, name)", "put_on(board, one, other, name)",
                 "way_through(board, one, other, told)"],
     "senses": ["way_over(board, one, other, first, second)", "round_over(board, one, other, first, second)"],
+    "changed": ["with_tie(board, one, other)", "without_tie(board, one, other)", "without(board, place)",
+                "drawn_together(board, one, other)", "begins(board, one, other)", "let_ties(board)"],
+    "full": ["is_full(board)", "filled(board)", "most_ties(pins, others)"],
+    "needed": ["needed_ties(board)", "needed_places(board)", "least_new(board)"],
+    "ledown": ["led_down(board)", "is_led_down(board, thing)"],
     "rimcounts": ["count(board, first, last)", "least_lot(board, first, last)", "counts(board)"],
+    "codes": ["code(board)", "is_code(rim, thing)", "count_by(rim, code, first, last)", "board_for(rim, code)",
+              "count_codes(many)", "all_codes(rim)"],
+    "toldback": ["table_fault(table)", "code_of(rim, table)"],
+    "alike": ["alike(one, other)", "parting_pairs(one, other)", "are_parting(one, other, thing)",
+              "is_better(one, other)", "better_paper(one, other)"],
 }
 CLASSES = {
     "boards": ("Board", "(places, ties, rim)", {"places": "(self)", "ties": "(self)", "rim": "(self)",
