@@ -1,8 +1,9 @@
 """The texts of notices, and their first wrong signs."""
 
+from mustcross.boardgrammar import BoardThen
 from mustcross.errors import BadText
-from mustcross.noticegrammar import NoticeGrammar
-from mustcross.notices import need_notice
+from mustcross.noticegrammar import WishLines
+from mustcross.notices import Notice, need_notice
 from mustcross.scans import Scan, taken_signs, text_fault
 
 
@@ -32,23 +33,24 @@ def notice_text(notice):
 
 def notice_fault(text):
     """The line and the first wrong sign of any object, None for a notice's text."""
-    return text_fault(text, NoticeGrammar())
+    return text_fault(text, BoardThen(WishLines()))
 
 
 def read_notice(text):
     """The notice with this text."""
-    grammar = NoticeGrammar()
+    lines = WishLines()
+    grammar = BoardThen(lines)
     fault = text_fault(text, grammar)
     if fault is not None:
         raise BadText(fault[0], fault[1])
-    return grammar.notice()
+    return Notice(grammar.board(), lines.wishes())
 
 
 def notice_goes_on(text):
     """A notice's text that begins with a string, None if there is none."""
     if not isinstance(text, str):
         return None
-    scan = Scan(NoticeGrammar())
+    scan = Scan(BoardThen(WishLines()))
     if taken_signs(scan, text) < len(text):
         return None
     return text + scan.rest()
