@@ -55,11 +55,23 @@ INTERFACE = {
     "toldback": ["table_fault(table)", "code_of(rim, table)"],
     "alike": ["alike(one, other)", "parting_pairs(one, other)", "are_parting(one, other, thing)",
               "is_better(one, other)", "better_paper(one, other)"],
+    "beside": ["common_stretch(one, other)", "beside(one, other)", "ways_on(one, other)", "held_back(one, other)",
+               "led_on(one, other, cross)"],
+    "within": ["within(board, place, other)"],
+    "audits": ["answers_for(notice)", "audit(notice_text, answer_texts)"],
+    "refusals": ["refusal(notice, words)", "is_refusal(notice, words, thing)"],
+    "whynot": ["why_not(board, one, two)", "is_why_not(board, one, two, thing)"],
+    "sessiontexts": ["write_session(session)", "read_session(text)"],
 }
 CLASSES = {
     "boards": ("Board", "(places, ties, rim)", {"places": "(self)", "ties": "(self)", "rim": "(self)",
                                                 "ties_of": "(self, place)", "__eq__": "(self, other)"}),
     "notices": ("Notice", "(board, wishes)", {"board": "(self)", "wishes": "(self)", "__eq__": "(self, other)"}),
+    "sessions": ("Session", "()", {"now": "(self)", "watched": "(self)", "do": "(self, deed)",
+                                   "is_question": "(self, thing)", "answer": "(self, question)",
+                                   "would": "(self, deed)", "count": "(self)", "deeds": "(self)", "undo": "(self)",
+                                   "again": "(self)", "at": "(self, number)", "copy": "(self)",
+                                   "trial": "(self, work)", "__eq__": "(self, other)"}),
 }
 LIBRARY = {"heapq", "math", "itertools", "collections"}
 BUILTINS = set("""len range enumerate zip min max sum abs sorted reversed int str bool list tuple dict set

@@ -6,7 +6,7 @@ begins with a part of a line is found out by trying ends for it.
 
 import re
 from functools import lru_cache
-from itertools import combinations, permutations
+from itertools import combinations, permutations, product
 
 from support import WORDS
 
@@ -52,12 +52,17 @@ class NoticeLines:
 
     def other_lines(self):
         """All lines but place lines that may come next."""
-        if self.rim is None:
-            rows = [row for many in range(len(self.places) + 1)
-                    for row in permutations(self.places, many)]
-            ties = [tie for tie in permutations(self.places, 2) if set(tie) not in self.ties]
-            return (["rim\n"] + ["rim " + ", ".join(row) + "\n" for row in rows if row]
-                    + [f"tie {one} {other}\n" for one, other in ties])
+        return self.board_lines() if self.rim is None else self.last_lines()
+
+    def board_lines(self):
+        """All tie and rim lines that may come next."""
+        rows = [row for many in range(len(self.places) + 1) for row in permutations(self.places, many)]
+        ties = [tie for tie in permutations(self.places, 2) if set(tie) not in self.ties]
+        return (["rim\n"] + ["rim " + ", ".join(row) + "\n" for row in rows if row]
+                + [f"tie {one} {other}\n" for one, other in ties])
+
+    def last_lines(self):
+        """All lines that may come next behind the rim's."""
         return [f"apart {a} {b}, {c} {d}\n" for a, b, c, d in permutations(self.places, 4)
                 if {frozenset((a, b)), frozenset((c, d))} not in self.wishes]
 
@@ -71,12 +76,37 @@ class NoticeLines:
         elif line.startswith("rim"):
             self.rim = names
         else:
-            self.wishes.append({frozenset(names[:2]), frozenset(names[2:])})
+            self.take_last(line, names)
+
+    def take_last(self, line, names):
+        self.wishes.append({frozenset(names[:2]), frozenset(names[2:])})
+
+
+class SessionLines(NoticeLines):
+    """What the lines of a session's text, read so far, let come next."""
+
+    def last_lines(self):
+        rows = [("cross",), *[("ring", pin) for pin in self.rim], *[("count", *row) for row in product(self.rim, repeat=2)],
+                *[("joined", *row) for row in permutations(self.places, 2)],
+                *[("apart", *row) for row in permutations(self.places, 4)]]
+        return [f"{word} {' '.join(row)}\n" for word in ("watch", "hold") for row in rows if row not in self.wishes]
+
+    def take_last(self, line, names):
+        self.wishes.append(tuple(names))
 
 
 def notice_fault_by_hand(text):
     """The first wrong sign of a text, None for a notice's text."""
-    so_far = NoticeLines()
+    return fault_by_hand(text, NoticeLines())
+
+
+def session_fault_by_hand(text):
+    """The first wrong sign of a text, None for a session's text."""
+    return fault_by_hand(text, SessionLines())
+
+
+def fault_by_hand(text, so_far):
+    """The first wrong sign of a text that is read line by line, None if there is none."""
     at = 0
     while True:
         line = text[at:].split("\n")[0] + ("\n" if "\n" in text[at:] else "")
