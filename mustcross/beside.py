@@ -10,7 +10,7 @@ from mustcross.stretches import pins_outside, stretch_of
 
 
 def row_on_rim(rim, places):
-    """Some pins, not all, as they stand on the rim, None if other pins stand between them."""
+    """Some pins as they stand on the rim, None if other pins stand between them, or if they are none or all."""
     firsts = [pin for index, pin in enumerate(rim) if pin in places and rim[index - 1] not in places]
     if len(firsts) != 1:
         return None
@@ -24,13 +24,10 @@ def stretch_in_common(one, other):
     common = [place for place in one.places() if other.has_place(place)]
     ours = one.rim()
     theirs = other.rim()
-    if not common or not all([place in ours and place in theirs for place in common]):
-        return None
-    if len(common) == len(ours) or len(common) == len(theirs):
+    if not all([place in ours and place in theirs for place in common]):
         return None
     stretch = row_on_rim(ours, common)
-    turned = row_on_rim(theirs, common)
-    if stretch is None or turned is None or turned != stretch[::-1]:
+    if stretch is None or row_on_rim(theirs, common) != stretch[::-1]:
         return None
     return stretch
 

@@ -27,7 +27,7 @@ def led_down(board):
 
 def is_tied(board, one, other):
     """Whether two objects are places of a board that are tied."""
-    return board.has_place(one) and board.has_place(other) and other in board.ties_of(one)
+    return board.has_place(one) and other in board.ties_of(one)
 
 
 def behind_step(board, thing):
@@ -50,8 +50,7 @@ def behind_step(board, thing):
 
 def is_led_to(board):
     """Whether a board is just two ties between four pins, and they cross."""
-    return (len(board.places()) == FEWEST_PINS and len(board.rim()) == FEWEST_PINS
-            and len(board.ties()) == 2 and is_crossed(board))
+    return len(board.places()) == FEWEST_PINS and len(board.ties()) == 2 and is_crossed(board)
 
 
 def is_led_down(board, thing):

@@ -91,6 +91,10 @@ class CommonTest(unittest.TestCase):
                               (board("a p q", "", "p q a"), board("c p q", "", "p q c")),
                               (board("a p q", "", "p q a"), board("c d p q", "", "p c q d")),
                               (board("a p x", "", "p a"), board("c p x", "", "p c")),
+                              (board("a b p x", "", "p a b"), board("c d p x", "", "p c d")),
+                              (board("a b p x", "", "p x a b"), board("c d p x", "", "p c d")),
+                              (board("a b p x", "", "p a b"), board("c d p x", "", "x p c d")),
+                              (board("a b", "", "a b"), board("c d", "", "c d")),
                               (board("a p q r", "", "p q r a"), board("c p q r", "", "q p r c"))]:
             self.assertIsNone(common_stretch(first, second))
             for call in CALLS:

@@ -71,6 +71,17 @@ class LedDownTest(unittest.TestCase):
         self.assertIs(is_led_down(WX, [("tie", "x", "a"), ["tie", "x", "c"], ("draw", "x", "d")]), True)
         self.assertIs(is_led_down(WX, [["draw", "x", "b"], ["tie", "b", "a"], ["tie", "c", "b"]]), True)
 
+    def test_one_thing_otherwise_in_places(self):
+        more = board("a b c d e f", "a c, b d, e f, a e", "a e b c d")
+        steps = [("place", "e"), ("place", "f")]
+        self.assertIs(is_led_down(more, steps), True)
+        for at, step in enumerate(steps):
+            for thing in [*odd_things(), "q", "a", ["e"], "places", "tie"]:
+                for row in [(step[0], thing), (thing, step[1]), (*step, thing)]:
+                    self.assertIs(is_led_down(more, [*steps[:at], row, *steps[at + 1:]]), False, row)
+                self.assertIs(is_led_down(more, [*steps, ("place", thing)]), False)
+                self.assertIs(is_led_down(more, [("place", thing), *steps]), False)
+
     def test_other_ways_down(self):
         self.assertIs(is_led_down(N, [("tie", "y", "x"), ("draw", "x", "c"), ("draw", "y", "b")]), True)
         more = board("a b c d e f", "a c, b d, e f, a e", "a e b c d")

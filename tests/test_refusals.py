@@ -138,7 +138,8 @@ class IsRefusalTest(unittest.TestCase):
         _, (kind, folds, orders) = told
         for thing in [(kind, folds, {**orders, "a": orders["a"][::-1]}), (kind, [], orders), (kind, folds, {}),
                       (kind, folds[::-1] + folds, orders), (kind, None, orders), (kind, folds, None),
-                      (kind, folds, {**orders, "q": []}), ("cross", folds, orders), (kind, orders, folds)]:
+                      (kind, folds, {**orders, "q": []}), ("cross", folds, orders), (kind, orders, folds),
+                      ("pictures", folds, orders), (None, folds, orders), ([kind], folds, orders)]:
             self.assertIs(is_refusal(notice, ["cross"], (0, thing)), False, thing)
 
 

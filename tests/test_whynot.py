@@ -103,6 +103,9 @@ class WhyNotTest(unittest.TestCase):
         self.assertIs(is_why_not(parts, ("a", "c"), ("b", "d"), ("no way", 1)), True)
         for place in "abcde":
             self.assertIs(is_why_not(parts, ("a", "c"), ("b", "d"), ("place", place)), False)
+        for thing in [*[thing for thing in odd_things() if thing not in (0, 1) or isinstance(thing, bool)], 2]:
+            self.assertIs(is_why_not(parts, ("a", "c"), ("b", "d"), ("no way", thing)), False)
+            self.assertIs(is_why_not(parts, ("a", "c"), ("b", "d"), (thing, 0)), False)
 
     def test_great_boards(self):
         chance = Random(2)
