@@ -25,6 +25,11 @@ def is_question_of(board, thing):
     return first_unknown(thing[1:], board.places()) is None
 
 
+def answer_cross(board):
+    """Whether there is a cross."""
+    return is_crossed(board)
+
+
 def answer_apart(board, a, b, c, d):
     """Whether a and b, c and d can be joined by two ways without a common place."""
     return are_joined_apart(board, (a, b), (c, d))
@@ -47,7 +52,7 @@ def answer_ring(board, pin):
     return [ring for ring in code(board) if pin in ring][0]
 
 
-ANSWERS = {"cross": is_crossed, "apart": answer_apart, "joined": answer_joined, "count": answer_count,
+ANSWERS = {"cross": answer_cross, "apart": answer_apart, "joined": answer_joined, "count": answer_count,
            "ring": answer_ring}
 
 

@@ -4,7 +4,7 @@ from itertools import combinations, permutations, product
 from random import Random
 
 from mustcross.boards import Board
-from support import all_pieces, all_ways, feet_around, fold_by_hand
+from support import all_ways, feet_around, fold_by_hand
 
 
 def alternates(rim, one, other):
